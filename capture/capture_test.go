@@ -59,6 +59,15 @@ func TestOpenErrors(t *testing.T) {
 	}
 }
 
+func TestOpenSharesNothing(t *testing.T) {
+	b := append(big.Head(), 1, 2)
+	_, rest, _ := Open(b)
+	rest[0] = 9
+	if b[24] != 1 {
+		t.Error("shared memory")
+	}
+}
+
 func TestRightAndWrite(t *testing.T) {
 	f := File{Most: 5}
 	n := File{Most: 5, Nano: true}

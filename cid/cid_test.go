@@ -17,6 +17,9 @@ var master = siphash.Of(3, 4)
 
 func TestMake(t *testing.T) {
 	p := cookie.Place{Version: 5, Slot: 1234}
+	if MostOnce != 1099511627775 || Size != 12 {
+		t.Error("constants")
+	}
 	for now := range uint64(3) {
 		k := siphash.Derive(master, now)
 		once := []byte{1, 2, 3, 4, 5}

@@ -90,8 +90,10 @@ func TestSend(t *testing.T) {
 	if val, _, _ := info.TCP.Stamp(); why != packet.Fine || val != 0 || info.TCP.Seq != 0 {
 		t.Error("an error counted:", why)
 	}
-	if b, e := New(udp4).Send(tcp.SYN, make([]byte, 70000)); e != api.ErrArg || len(b) != 0 {
-		t.Error(e)
+	for _, load := range [][]byte{nil, make([]byte, 65503), make([]byte, 70000)} {
+		if b, e := New(udp4).Send(tcp.SYN, load); e != api.ErrArg || len(b) != 0 {
+			t.Error(e)
+		}
 	}
 }
 

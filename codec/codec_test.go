@@ -132,6 +132,21 @@ func TestState(t *testing.T) {
 	}
 }
 
+func TestAllNumbersOfBackends(t *testing.T) {
+	s := config.New(siphash.Of(1, 2))
+	for n := 1; n <= api.MaxBackends; n++ {
+		apply(t, s, config.Op{Kind: config.AddBackend, Backend: n, Addr: addr.V4(1, 1, 1, byte(n))})
+	}
+	b := State(s)
+	if len(b) != 8+24+64*6+2 {
+		t.Error(len(b))
+	}
+	got, e := ParseState(b)
+	if e != api.OK || !reflect.DeepEqual(got, s) {
+		t.Error(e)
+	}
+}
+
 func TestParseStateRejects(t *testing.T) {
 	good := State(state(t))
 	reject := func(name string, b []byte) {

@@ -60,6 +60,14 @@ func filled(t *testing.T) *State {
 	return s
 }
 
+func TestKinds(t *testing.T) {
+	for i, kind := range []int{AddBackend, AddVip, SetMembers, Retire, Release, Evict, Admit, Rotate} {
+		if kind != i+1 {
+			t.Error(i, kind)
+		}
+	}
+}
+
 func TestNew(t *testing.T) {
 	s := New(key)
 	if s.Num != 0 || s.Ring != ring.New(key, 0) || s.Len() != 0 || s.Find(web, 80, 6) != -1 || s.Serves(web) {
@@ -233,6 +241,21 @@ func TestEvictAndAdmit(t *testing.T) {
 	check(t, s, Op{Kind: Admit, Backend: 1}, api.ErrNone)
 }
 
+func TestTheSecondServiceTakesOverEvictions(t *testing.T) {
+	s := New(key)
+	for _, o := range []Op{backend(1), backend(64), vip(80), {Kind: Evict, Backend: 64}, vip(81)} {
+		check(t, s, o, api.OK)
+	}
+	if v, _ := s.Vip(1); !v.Tables.Evicted(64) || v.Tables.Evicted(1) {
+		t.Error("evictions")
+	}
+	check(t, s, Op{Kind: Admit, Backend: 64}, api.OK)
+	check(t, s, vip(82), api.OK)
+	if v, _ := s.Vip(2); v.Tables.Evicted(64) {
+		t.Error("evictions")
+	}
+}
+
 func TestOtherKinds(t *testing.T) {
 	s := filled(t)
 	for _, kind := range []int{0, -1, 9, 255} {
@@ -274,6 +297,17 @@ func TestRestore(t *testing.T) {
 		t.Error(e)
 	}
 	tables.Push(table.Table{})
+	own := []Member{{2, 3}}
+	if e := s.Restore(own, tables); e != api.OK {
+		t.Error(e)
+	}
+	own[0].Weight = 99
+	if v, _ := s.Vip(1); v.Weight(2) != 3 {
+		t.Error("shared memory")
+	}
+	tables = &stack.Stack{}
+	tables.Push(table.Table{}.Next(5, 6))
+	s.Restore([]Member{{1, 7}}, tables)
 	v, _ := s.Vip(1)
 	if v.Tables.Len() != 1 || v.Weight(1) != 7 {
 		t.Error(v)

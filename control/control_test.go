@@ -216,6 +216,11 @@ func TestReleaseWaitsForAllNodes(t *testing.T) {
 	again.Ack(0, 10)
 	again.Ack(1, 10)
 	issue(t, again, release(0))
+	other := open(t, disk.New(10000), 1)
+	issue(t, other, backend(1), vip(), members(1), members(1), retire(0), backend(2), config.Op{Kind: config.Evict, Backend: 1}, members(2))
+	other.Commit()
+	other.Ack(0, 5)
+	issue(t, other, release(0))
 	alone := open(t, disk.New(10000), 0)
 	issue(t, alone, backend(1), vip(), members(1), members(1), retire(0), release(0))
 }

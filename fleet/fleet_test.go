@@ -18,6 +18,7 @@ import (
 	"counterfoil/policy"
 	"counterfoil/siphash"
 	"counterfoil/tcp"
+	"counterfoil/tunnel"
 	"counterfoil/udp"
 )
 
@@ -136,6 +137,15 @@ func TestRight(t *testing.T) {
 	for i, s := range bad {
 		if x, e := New(s); Right(s) || x != nil || e != api.ErrArg {
 			t.Error("bad", i)
+		}
+	}
+}
+
+func TestKinds(t *testing.T) {
+	got := []int{Issue, Commit, Crash, Offer, Deliver, Drop, Twice, Restart, Report, Send, Reply, Tick, Quic, Give, Move}
+	for i, kind := range got {
+		if kind != i {
+			t.Error(i, kind)
 		}
 	}
 }
@@ -295,6 +305,29 @@ func TestSendAndReply(t *testing.T) {
 		s, _ := tcp.Parse(out.Load)
 		if _, echo, _ := s.Stamp(); out.Backend != 1 || out.Why != packet.Fine || echo != 0x54321 {
 			t.Errorf("%+v %x", out, echo)
+		}
+	}
+}
+
+func TestAddressesOfReplicas(t *testing.T) {
+	x := serving(t)
+	do(t, x, Step{Kind: Issue, Op: config.Op{Kind: config.AddBackend, Backend: 1, Addr: addr.V6(5, 5)}}, api.OK)
+	do(t, x, Step{Kind: Commit}, api.OK)
+	x.Settle(3)
+	for n := range 2 {
+		for range 2 {
+			b, e := x.Client(0).Send(tcp.SYN, nil)
+			if e != api.OK {
+				t.Fatal(e)
+			}
+			out := x.Replica(n).Process(b, [2]uint32{})
+			want := addr.V4(10, 0, 1, byte(n+1))
+			if out.Backend == 1 {
+				want = addr.V6(0, uint64(n+1))
+			}
+			if _, way, e := tunnel.Unwrap(out.Packet); way.Src != want || e != api.OK {
+				t.Error(n, way, e)
+			}
 		}
 	}
 }

@@ -70,6 +70,12 @@ func TestMessages(t *testing.T) {
 	}
 }
 
+func TestConstants(t *testing.T) {
+	if Ops != 1 || Whole != 2 || Ack != 3 || MostOps != 16 {
+		t.Error("constants")
+	}
+}
+
 func TestParseRejects(t *testing.T) {
 	good := Message{Kind: Ops, Num: 1, L: [][]byte{{9, 8}, {7}}}.Bytes()
 	for n := range good {

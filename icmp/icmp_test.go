@@ -112,3 +112,10 @@ func TestParseInvertsBytes(t *testing.T) {
 		}
 	}
 }
+
+func TestConstants(t *testing.T) {
+	got := []int{Size, Unreachable4, Echo4, Exceeded4, Unreachable6, TooBig6, Exceeded6, Problem6, Echo6, NeedsFragments, Quote4, Quote6}
+	if !reflect.DeepEqual(got, []int{8, 3, 8, 11, 1, 2, 3, 4, 128, 4, 548, 1232}) {
+		t.Error(got)
+	}
+}

@@ -103,10 +103,16 @@ func TestParse(t *testing.T) {
 	if e != api.OK || string(load) != "hello" || !reflect.DeepEqual(got, h) {
 		t.Error(got, load, e)
 	}
+	got, load, _ = Parse(b)
 	got.Options[0] = 7
 	load[0] = 7
 	if b[20] != 1 || b[24] != 'h' {
 		t.Error("the result shares memory with the packet")
+	}
+	for _, n := range []int{255, 256, 0x1234, 65535 - 24} {
+		if got, load, e := Parse(pack(t, h, make([]byte, n))); e != api.OK || len(load) != n || got.Length != n+24 {
+			t.Error(n, got.Length, e)
+		}
 	}
 }
 

@@ -161,3 +161,9 @@ func TestParseInvertsPacket(t *testing.T) {
 		}
 	}
 }
+
+func TestConstants(t *testing.T) {
+	if Size != 40 || MostLabel != 1048575 {
+		t.Error("constants")
+	}
+}

@@ -144,6 +144,17 @@ func TestOpenCuts(t *testing.T) {
 	}
 }
 
+func TestTheLongestRecord(t *testing.T) {
+	d := disk.New(10000)
+	j := open(t, d)
+	if e := j.Write(make([]byte, 4096)); e != api.OK || d.Len() != 4110 || MostRecord != 4096 {
+		t.Error(e)
+	}
+	if got, ok := open(t, d).Get(1); len(got) != 4096 || !ok {
+		t.Error(len(got), ok)
+	}
+}
+
 func TestNil(t *testing.T) {
 	var j *Journal
 	if _, ok := j.Get(1); ok || j.Len() != 0 {

@@ -90,6 +90,12 @@ func TestTable(t *testing.T) {
 			t.Error(p, v, ok)
 		}
 	}
+	// Prefixes that are not valid are in no table, though their first bits may be.
+	for _, p := range []Prefix{{addr.V4(10, 0, 0, 1), 8}, {addr.V4(1, 1, 1, 1), 0}, {addr.V6(1, 1), 0}} {
+		if v, ok := table.Get(p); v != 0 || ok || table.Drop(p) != api.ErrNone {
+			t.Error(p, v, ok)
+		}
+	}
 	if table.Drop(wide) != api.OK || table.Drop(wide) != api.ErrNone || table.Len() != 4 {
 		t.Error("Drop")
 	}

@@ -78,6 +78,9 @@ func TestBuild(t *testing.T) {
 	if full, e := Build(key, 3, 1, 2, 3); e != api.OK || full.Len() != 3 {
 		t.Error(e)
 	}
+	if MostSize != 2048 {
+		t.Error(MostSize)
+	}
 	bad := []struct {
 		size    int
 		members []int

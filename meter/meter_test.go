@@ -67,6 +67,11 @@ func TestLevelRefills(t *testing.T) {
 	if slow.Level(1<<31-1) != 1<<31-1 || slow.Level(1<<40) != MostRate {
 		t.Error("a long time")
 	}
+	even := bucket(t, MostRate, MostRate)
+	even.Take(MostRate, 0)
+	if even.Level(1<<33) != MostRate || MostRate != 2147483648 {
+		t.Error("a product of 2^64")
+	}
 	fast := bucket(t, MostRate, MostRate)
 	fast.Take(MostRate, 0)
 	if fast.Level(math.MaxUint64) != MostRate {
@@ -104,6 +109,23 @@ func TestBelowRoundsUp(t *testing.T) {
 	h.Add(2)
 	h.Add(4)
 	want := map[int]uint64{0: 1, 1: 1, 33: 1, 34: 3, 66: 3, 67: 7, 100: 7}
+	for percent, bound := range want {
+		if x, ok := h.Below(percent); x != bound || !ok {
+			t.Error(percent, x, ok)
+		}
+	}
+}
+
+func TestBelowOfManyNumbers(t *testing.T) {
+	var h Hist
+	for n := range 1050 {
+		if n < 840 {
+			h.Add(1)
+		} else {
+			h.Add(4)
+		}
+	}
+	want := map[int]uint64{79: 1, 80: 1, 81: 7, 100: 7}
 	for percent, bound := range want {
 		if x, ok := h.Below(percent); x != bound || !ok {
 			t.Error(percent, x, ok)

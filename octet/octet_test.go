@@ -106,6 +106,15 @@ func TestReaderTurnsBad(t *testing.T) {
 	}
 }
 
+func TestSizesThatAreTooGreat(t *testing.T) {
+	for _, size := range []int{9, 10, math.MaxInt} {
+		r := Read(make([]byte, 20))
+		if r.Num(size) != 0 || !r.Bad() || r.Left() != 0 {
+			t.Error(size)
+		}
+	}
+}
+
 func TestReaderKeepsNothingOfItsArgument(t *testing.T) {
 	b := []byte{1, 2, 3}
 	r := Read(b)

@@ -165,6 +165,12 @@ func forwarded(t *testing.T, p *Replica, b []byte, vip, backend int) []byte {
 	return inner
 }
 
+func TestKinds(t *testing.T) {
+	if Drop != 0 || Forward != 1 || Answer != 2 {
+		t.Error("kinds")
+	}
+}
+
 func TestNew(t *testing.T) {
 	good := []Setting{set, {Four: set.Four, Six: set.Six, Most: 576}, {Six: set.Six, Most: 9000}}
 	for _, s := range good {
@@ -301,6 +307,9 @@ func TestOpeningByPolicies(t *testing.T) {
 				t.Error(policy.Name(i+1), out.Backend, backend)
 			}
 		}
+	}
+	if out := p.Process(open(t, flows[3]), [2]uint32{1, 2}); out.Backend != 2 {
+		t.Error("the first draw:", out.Backend)
 	}
 	for n := 1; n <= 3; n++ {
 		p.Book.Note(load.Report{Backend: n, Num: 2})
@@ -478,6 +487,9 @@ func TestQuotes(t *testing.T) {
 	dropped(t, p, quote(t, datagram(t, back, []byte{0x40}), web4), packet.NoService)
 	ping := api.Flow{Src: tcp4.Src, Dst: web4, Proto: api.ICMP}
 	dropped(t, p, pack(t, ping, icmp.Message{Type: icmp.Echo4}.Summed(ping.Src, ping.Dst).Bytes()), packet.Stranger)
+	back = addr.Back(tcp4)
+	sent := pack(t, back, segment(back, tcp.ACK, nil, 9).Bytes())
+	dropped(t, p, pack(t, ping, icmp.Message{Type: icmp.Echo4, Load: sent}.Summed(ping.Src, ping.Dst).Bytes()), packet.Stranger)
 }
 
 func TestTooBig(t *testing.T) {

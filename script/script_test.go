@@ -58,6 +58,12 @@ func TestLines(t *testing.T) {
 	}
 }
 
+func TestConstants(t *testing.T) {
+	if Most != 1073741824 || Settle != 15 {
+		t.Error("constants")
+	}
+}
+
 func TestParseRejects(t *testing.T) {
 	bad := []string{
 		"", " ", "commit ", " commit", "commit 1", "Commit", "commit\n", "\n", "unknown", "issue", "issue ", "issue rotate 1", "issue unknown 1", "offer", "offer ", "offer 03",

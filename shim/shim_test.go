@@ -207,9 +207,12 @@ func TestConnectionsAreBounded(t *testing.T) {
 	if _, e := s.Leave(flows[1], long); e != api.ErrLong {
 		t.Error("too long:", e)
 	}
+	if _, e := s.Leave(flows[1], segment(flows[1], tcp.ACK, nil)); e != api.OK {
+		t.Error(e)
+	}
 	arrive(t, s, flows[3], segment(flows[3], tcp.SYN, stamps(7, 5)), 0)
 	if s.Conns() != 3 || reply(flows[1]) != api.ErrNone {
-		t.Error("an error counted as a use")
+		t.Error("an error, or a segment without timestamps, counted as a use")
 	}
 	if reply(flows[0]) != api.OK || reply(flows[2]) != api.OK || reply(flows[3]) != api.OK {
 		t.Error("the wrong connection is gone")

@@ -84,6 +84,10 @@ func TestRead(t *testing.T) {
 		if q, ok := Read(pack(t, f, nil, datagram(f)), six); !ok || q != (Quoted{Flow: f}) {
 			t.Error("UDP:", q, ok)
 		}
+		like := udp.Datagram{SrcPort: f.SrcPort, DstPort: f.DstPort, Load: segment(f, stamp)[8:]}.Summed(f.Src, f.Dst)
+		if q, ok := Read(pack(t, f, nil, like.Bytes()), six); !ok || q != (Quoted{Flow: f}) {
+			t.Error("UDP that looks like TCP:", q, ok)
+		}
 		f.Proto = api.ICMP
 		if q, ok := Read(pack(t, f, nil, segment(f, stamp)), six); ok || q != (Quoted{}) {
 			t.Error("neither TCP nor UDP:", q, ok)

@@ -229,3 +229,14 @@ func TestParseInvertsBytesAndFineStays(t *testing.T) {
 		}
 	}
 }
+
+func TestOptionsThatReachBeyondTheEnd(t *testing.T) {
+	for _, o := range [][]byte{{1, 1, 1, 1, 3, 5, 0, 0}, {1, 1, 1, 1, 1, 1, 8, 10, 0, 0, 0, 1}, {3, 3, 7, 1, 8, 10, 0, 0, 0, 1, 0, 0}} {
+		if at, ok := Stamps(o); at != 0 || ok {
+			t.Error(o, at, ok)
+		}
+	}
+	if Kind != 8 || Long != 10 || Least != 20 {
+		t.Error("constants")
+	}
+}

@@ -121,6 +121,12 @@ func TestShow(t *testing.T) {
 	}
 }
 
+func TestConstants(t *testing.T) {
+	if Size != 8 || MostID != 20 {
+		t.Error("constants")
+	}
+}
+
 func TestShowErrors(t *testing.T) {
 	cases := []struct {
 		b    []byte

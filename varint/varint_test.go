@@ -40,6 +40,12 @@ func TestSizeAndPut(t *testing.T) {
 	}
 }
 
+func TestConstants(t *testing.T) {
+	if Most != 4611686018427387903 {
+		t.Error("constants")
+	}
+}
+
 func TestTake(t *testing.T) {
 	for _, b := range [][]byte{nil, {0x40}, {0x80, 0, 0}, {0xc0, 0, 0, 0, 0, 0, 0}} {
 		if n, rest, e := Take(b); n != 0 || len(rest) != 0 || e != api.ErrShort {
