@@ -1,4 +1,4 @@
-package addr
+package addr_test
 
 import (
 	"bytes"
@@ -8,6 +8,7 @@ import (
 	"strings"
 	"testing"
 
+	. "counterfoil/addr"
 	"counterfoil/api"
 )
 

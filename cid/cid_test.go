@@ -1,4 +1,4 @@
-package cid
+package cid_test
 
 import (
 	"bytes"
@@ -7,6 +7,7 @@ import (
 	"testing"
 
 	"counterfoil/api"
+	. "counterfoil/cid"
 	"counterfoil/cookie"
 	"counterfoil/octet"
 	"counterfoil/ring"

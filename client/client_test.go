@@ -1,13 +1,13 @@
-package client
+package client_test
 
 import (
 	"bytes"
 	"math/rand"
-	"reflect"
 	"testing"
 
 	"counterfoil/addr"
 	"counterfoil/api"
+	. "counterfoil/client"
 	"counterfoil/cookie"
 	"counterfoil/icmp"
 	"counterfoil/ip4"
@@ -167,7 +167,8 @@ func TestTakeRefuses(t *testing.T) {
 	to.SrcPort = 1
 	ping := pack(t, api.Flow{Src: tcp4.Dst, Dst: tcp4.Src, Proto: api.ICMP}, icmp.Message{}.Summed(tcp4.Dst, tcp4.Src).Bytes())
 	for i, b := range [][]byte{nil, wrong, good[:30], answer(t, other, 9), answer(t, from, 9), answer(t, to, 9), give(t, udp4, []byte{1}), answer(t, addr.Back(tcp4), 9), ping} {
-		if c.Take(b) || !reflect.DeepEqual(c, New(tcp4)) {
+		x, ok := c.Recent()
+		if c.Take(b) || x != 0 || ok || len(c.ID()) != 0 || c.Flow() != tcp4 {
 			t.Error(i)
 		}
 	}

@@ -1,17 +1,21 @@
-package codec
+package codec_test
 
 import (
 	"bytes"
+	"fmt"
 	"math"
 	"math/rand"
-	"reflect"
 	"testing"
 
 	"counterfoil/addr"
 	"counterfoil/api"
+	. "counterfoil/codec"
 	"counterfoil/config"
 	"counterfoil/siphash"
 )
+
+// same reports whether two values print alike, as nil slices and empty ones do.
+func same(a, b any) bool { return fmt.Sprintf("%+v", a) == fmt.Sprintf("%+v", b) }
 
 func sample() config.Op {
 	return config.Op{Kind: 3, Vip: 4, Backend: 5, Version: 6, Addr: addr.V4(1, 2, 3, 4), Port: 0x0708, Proto: 17, Way: 9,
@@ -23,7 +27,7 @@ func TestOp(t *testing.T) {
 	if !bytes.Equal(Op(sample()), want) {
 		t.Error(Op(sample()))
 	}
-	if got, e := ParseOp(want); e != api.OK || !reflect.DeepEqual(got, sample()) {
+	if got, e := ParseOp(want); e != api.OK || !same(got, sample()) {
 		t.Error(got, e)
 	}
 	if b := Op(config.Op{Kind: 8}); len(b) != 14 {
@@ -61,7 +65,7 @@ func TestRight(t *testing.T) {
 	if !Right(o) || !Right(config.Op{}) {
 		t.Error("valid")
 	}
-	if got, e := ParseOp(Op(o)); e != api.OK || !reflect.DeepEqual(got, o) {
+	if got, e := ParseOp(Op(o)); e != api.OK || !same(got, o) {
 		t.Error(got, e)
 	}
 }
@@ -69,7 +73,7 @@ func TestRight(t *testing.T) {
 func TestParseOpRejects(t *testing.T) {
 	good := Op(sample())
 	for n := range good {
-		if o, e := ParseOp(good[:n]); e != api.ErrForm || !reflect.DeepEqual(o, config.Op{}) {
+		if o, e := ParseOp(good[:n]); e != api.ErrForm || !same(o, config.Op{}) {
 			t.Error(n, o, e)
 		}
 	}
@@ -77,7 +81,7 @@ func TestParseOpRejects(t *testing.T) {
 	long = append(long, make([]byte, 130)...)
 	five := append([]byte{3, 4, 5, 6, 5, 0}, good[5:]...)
 	for _, b := range [][]byte{append(bytes.Clone(good), 0), long, five, {0, 0, 0, 0, 0, 0, 0, 0, 0, 0}} {
-		if o, e := ParseOp(b); e != api.ErrForm || !reflect.DeepEqual(o, config.Op{}) {
+		if o, e := ParseOp(b); e != api.ErrForm || !same(o, config.Op{}) {
 			t.Error(b, o, e)
 		}
 	}
@@ -120,14 +124,20 @@ func TestState(t *testing.T) {
 		t.Errorf("%v\n%v", got, want)
 	}
 	got, e := ParseState(want)
-	if e != api.OK || !reflect.DeepEqual(got, s) {
+	if e != api.OK || !bytes.Equal(State(got), want) || got.Num != 7 || got.Ring != s.Ring || got.Len() != 2 || got.Find(addr.V4(9, 9, 9, 9), 81, 6) != 1 {
 		t.Error(got, e)
+	}
+	if a, ok := got.Backend(7); a != addr.V6(1, 2) || !ok {
+		t.Error(a, ok)
+	}
+	if v, _ := got.Vip(1); v.Weight(7) != 3 || !v.Tables.Evicted(2) || v.Tables.Len() != 1 || v.Way != 1 {
+		t.Error(v)
 	}
 	if len(State(nil)) != 0 {
 		t.Error("nil")
 	}
 	empty := config.New(siphash.Of(1, 2))
-	if got, e := ParseState(State(empty)); e != api.OK || !reflect.DeepEqual(got, empty) || len(State(empty)) != 34 {
+	if got, e := ParseState(State(empty)); e != api.OK || got.Ring != empty.Ring || got.Num != 0 || got.Len() != 0 || len(State(empty)) != 34 {
 		t.Error(got, e)
 	}
 }
@@ -142,8 +152,11 @@ func TestAllNumbersOfBackends(t *testing.T) {
 		t.Error(len(b))
 	}
 	got, e := ParseState(b)
-	if e != api.OK || !reflect.DeepEqual(got, s) {
+	if e != api.OK || !bytes.Equal(State(got), b) {
 		t.Error(e)
+	}
+	if a, ok := got.Backend(64); a != addr.V4(1, 1, 1, 64) || !ok {
+		t.Error(a, ok)
 	}
 }
 
@@ -202,7 +215,7 @@ func TestParseInverts(t *testing.T) {
 			for range rnd.Intn(3) {
 				o.Members = append(o.Members, config.Member{Backend: 1 + rnd.Intn(5), Weight: rnd.Intn(101)})
 			}
-			if got, e := ParseOp(Op(o)); e != api.OK || !reflect.DeepEqual(got, o) {
+			if got, e := ParseOp(Op(o)); e != api.OK || !same(got, o) {
 				t.Fatal(got, o, e)
 			}
 			s.Apply(o)

@@ -1,19 +1,25 @@
-package config
+package config_test
 
 import (
+	"bytes"
+	"fmt"
 	"math"
-	"reflect"
 	"slices"
 	"testing"
 
 	"counterfoil/addr"
 	"counterfoil/api"
+	"counterfoil/codec"
+	. "counterfoil/config"
 	"counterfoil/policy"
 	"counterfoil/ring"
 	"counterfoil/siphash"
 	"counterfoil/stack"
 	"counterfoil/table"
 )
+
+// same reports whether two values print alike, as nil slices and empty ones do.
+func same(a, b any) bool { return fmt.Sprintf("%+v", a) == fmt.Sprintf("%+v", b) }
 
 var (
 	key = siphash.Of(1, 2)
@@ -45,7 +51,7 @@ func check(t *testing.T, s *State, o Op, want api.Errno) {
 	if want == api.OK && s.Num != num+1 {
 		t.Errorf("%+v: not counted", o)
 	}
-	if want != api.OK && !reflect.DeepEqual(s, before) {
+	if want != api.OK && !bytes.Equal(codec.State(s), codec.State(before)) {
 		t.Errorf("%+v: an error changed the state", o)
 	}
 }
@@ -77,7 +83,7 @@ func TestNew(t *testing.T) {
 		if a, ok := s.Backend(n); a != (api.Addr{}) || ok {
 			t.Error(n, a, ok)
 		}
-		if v, ok := s.Vip(n); !reflect.DeepEqual(v, Vip{}) || ok {
+		if v, ok := s.Vip(n); !same(v, Vip{}) || ok {
 			t.Error(n, v, ok)
 		}
 	}
@@ -269,7 +275,7 @@ func TestCopy(t *testing.T) {
 	s := filled(t)
 	check(t, s, members(0, 1, 2), api.OK)
 	c := s.Copy()
-	if !reflect.DeepEqual(s, c) {
+	if !bytes.Equal(codec.State(s), codec.State(c)) {
 		t.Error("a copy is different")
 	}
 	for _, o := range []Op{members(0, 3), {Kind: Evict, Backend: 1}, backend(9), {Kind: Rotate}, vip(99)} {
@@ -323,7 +329,7 @@ func TestRestore(t *testing.T) {
 		t *stack.Stack
 	}{{nil, nil}, {[]Member{{9, 1}}, tables}, {[]Member{{1, 1}, {1, 1}}, tables}, {[]Member{{1, 101}}, tables}, {make([]Member, 65), tables}, {nil, evicting}}
 	for i, c := range bad {
-		if e := s.Restore(c.l, c.t); e != api.ErrArg || !reflect.DeepEqual(s, before) {
+		if e := s.Restore(c.l, c.t); e != api.ErrArg || !bytes.Equal(codec.State(s), codec.State(before)) {
 			t.Error(i, e)
 		}
 	}

@@ -1,4 +1,4 @@
-package conns
+package conns_test
 
 import (
 	"math"
@@ -8,6 +8,7 @@ import (
 
 	"counterfoil/addr"
 	"counterfoil/api"
+	. "counterfoil/conns"
 )
 
 func flow(n int) api.Flow {

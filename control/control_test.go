@@ -1,4 +1,4 @@
-package control
+package control_test
 
 import (
 	"bytes"
@@ -10,6 +10,7 @@ import (
 	"counterfoil/api"
 	"counterfoil/codec"
 	"counterfoil/config"
+	. "counterfoil/control"
 	"counterfoil/disk"
 	"counterfoil/journal"
 	"counterfoil/siphash"

@@ -1,4 +1,4 @@
-package cookie
+package cookie_test
 
 import (
 	"math"
@@ -7,6 +7,7 @@ import (
 
 	"counterfoil/addr"
 	"counterfoil/api"
+	. "counterfoil/cookie"
 	"counterfoil/ring"
 	"counterfoil/siphash"
 )

@@ -1,15 +1,19 @@
-package desk
+package desk_test
 
 import (
-	"reflect"
+	"fmt"
 	"strings"
 	"testing"
 
 	"counterfoil/addr"
 	"counterfoil/api"
+	. "counterfoil/desk"
 	"counterfoil/fleet"
 	"counterfoil/siphash"
 )
+
+// same reports whether two values print alike, as nil slices and empty ones do.
+func same(a, b any) bool { return fmt.Sprintf("%+v", a) == fmt.Sprintf("%+v", b) }
 
 func standard() fleet.Setting {
 	return fleet.Setting{Key: siphash.Of(0, 1), Replicas: 1, Backends: 1, Most: 1500, Conns: 16, Disk: 65536, Mail: 64}
@@ -22,7 +26,7 @@ func TestParseLines(t *testing.T) {
 	}
 	for text, lines := range cases {
 		s, n := Parse(text)
-		if n != 0 || len(s.Lines) != len(lines) || len(lines) > 0 && !reflect.DeepEqual(s.Lines, lines) || !reflect.DeepEqual(s.Set, standard()) {
+		if n != 0 || len(s.Lines) != len(lines) || len(lines) > 0 && !same(s.Lines, lines) || !same(s.Set, standard()) {
 			t.Errorf("%q: %q %d", text, s.Lines, n)
 		}
 	}
@@ -33,7 +37,7 @@ func TestParseSettings(t *testing.T) {
 	want := fleet.Setting{Key: siphash.Of(0, 8), Replicas: 2, Backends: 3, Most: 9000, Conns: 5, Disk: 1 << 30, Mail: 0, Flows: []api.Flow{
 		{Src: addr.V4(1, 2, 3, 4), Dst: addr.V4(6, 7, 8, 9), SrcPort: 5, DstPort: 10, Proto: 6}, {Src: addr.V6(0, 1), Dst: addr.V6(0, 2), SrcPort: 5, DstPort: 10, Proto: 17}}}
 	s, n := Parse(text)
-	if n != 0 || !reflect.DeepEqual(s.Set, want) || !reflect.DeepEqual(s.Lines, []string{"offer 0"}) {
+	if n != 0 || !same(s.Set, want) || !same(s.Lines, []string{"offer 0"}) {
 		t.Errorf("%+v %d", s, n)
 	}
 	if s, n := Parse("# key 0"); n != 0 || s.Set.Key != (siphash.Key{}) || len(s.Lines) != 0 {
@@ -44,7 +48,7 @@ func TestParseSettings(t *testing.T) {
 		"# key 1\n# mail -1\n# bad": 2, "# key 1\n# flow 1.2.3.4 5 6.7.8.9 10 icmp": 2, "# key 1\n# key 2\n# flows 1": 3,
 	}
 	for text, line := range bad {
-		if s, n := Parse(text); n != line || !reflect.DeepEqual(s, Script{}) {
+		if s, n := Parse(text); n != line || !same(s, Script{}) {
 			t.Errorf("%q: %+v %d", text, s, n)
 		}
 	}

@@ -1,10 +1,11 @@
-package disk
+package disk_test
 
 import (
 	"math"
 	"testing"
 
 	"counterfoil/api"
+	. "counterfoil/disk"
 )
 
 func TestDisk(t *testing.T) {

@@ -1,10 +1,10 @@
-package fleet
+package fleet_test
 
 import (
 	"bytes"
+	"fmt"
 	"math"
 	"math/rand"
-	"reflect"
 	"testing"
 
 	"counterfoil/addr"
@@ -13,6 +13,8 @@ import (
 	"counterfoil/codec"
 	"counterfoil/config"
 	"counterfoil/cookie"
+	. "counterfoil/fleet"
+	"counterfoil/follow"
 	"counterfoil/packet"
 	"counterfoil/plane"
 	"counterfoil/policy"
@@ -21,6 +23,9 @@ import (
 	"counterfoil/tunnel"
 	"counterfoil/udp"
 )
+
+// same reports whether two values print alike, as nil slices and empty ones do.
+func same(a, b any) bool { return fmt.Sprintf("%+v", a) == fmt.Sprintf("%+v", b) }
 
 var (
 	web4 = addr.V4(9, 9, 9, 9)
@@ -46,7 +51,7 @@ func fleet(t *testing.T, s Setting) *Fleet {
 // do executes a step of the control plane and checks its error.
 func do(t *testing.T, x *Fleet, s Step, want api.Errno) {
 	t.Helper()
-	if got := x.Do(s); !reflect.DeepEqual(got, Event{Errno: want}) {
+	if got := x.Do(s); !same(got, Event{Errno: want}) {
 		t.Fatalf("%+v: %+v, not %d", s, got, want)
 	}
 }
@@ -334,7 +339,7 @@ func TestAddressesOfReplicas(t *testing.T) {
 
 func TestSendOutcomes(t *testing.T) {
 	x := fleet(t, setting())
-	if out := x.Do(Step{Kind: Send, Flags: tcp.SYN}); !reflect.DeepEqual(out, Event{Why: packet.NoTable}) {
+	if out := x.Do(Step{Kind: Send, Flags: tcp.SYN}); !same(out, Event{Why: packet.NoTable}) {
 		t.Errorf("%+v", out)
 	}
 	for _, s := range []Step{{Who: 3}, {Who: -1}, {At: 2}, {At: -1}} {
@@ -352,7 +357,7 @@ func TestSendOutcomes(t *testing.T) {
 		t.Errorf("%+v", out)
 	}
 	issue(t, x, backend(4), members(0, 4))
-	if out := x.Do(Step{Kind: Send, Flags: tcp.SYN}); !reflect.DeepEqual(out, Event{Kind: plane.Forward, Backend: 4}) {
+	if out := x.Do(Step{Kind: Send, Flags: tcp.SYN}); !same(out, Event{Kind: plane.Forward, Backend: 4}) {
 		t.Errorf("there is no shim for this backend: %+v", out)
 	}
 	if out := x.Do(Step{Kind: Send, Flags: tcp.ACK}); out.Kind != plane.Drop || out.Why == packet.Fine {
@@ -400,7 +405,7 @@ func TestQuicAndGive(t *testing.T) {
 	do(t, x, Step{Kind: Give, Who: 1, At: 2}, api.ErrArg)
 	given := x.Do(Step{Kind: Give, Who: 2, At: 2})
 	id, _ := cid.Make(x.Controller().State().Ring, cookie.Place{}, 2<<20)
-	if !reflect.DeepEqual(given, Event{Backend: 3, Load: id}) || !bytes.Equal(x.Client(2).ID(), id) {
+	if !same(given, Event{Backend: 3, Load: id}) || !bytes.Equal(x.Client(2).ID(), id) {
 		t.Errorf("%+v", given)
 	}
 	do(t, x, Step{Kind: Move, Who: 2, Src: addr.V4(7, 7, 7, 7), Port: 70}, api.OK)
@@ -469,6 +474,14 @@ func TestSettle(t *testing.T) {
 	}
 }
 
+// follower returns the follower of a node.
+func follower(x *Fleet, n int) *follow.Follower {
+	if n < 2 {
+		return &x.Replica(n).Follower
+	}
+	return &x.Shim(n - 2).Follower
+}
+
 // stir executes random steps of the control plane.
 func stir(rnd *rand.Rand, x *Fleet, steps int) {
 	for range steps {
@@ -490,7 +503,7 @@ func TestAllNodesLearnTheSafeOperations(t *testing.T) {
 		x.Settle(3 + safe/16)
 		want := codec.State(x.Controller().State())
 		for n := range 5 {
-			f := x.node(n)
+			f := follower(x, n)
 			if safe > 0 && !bytes.Equal(codec.State(f.State()), want) {
 				t.Fatal("node", n, "knows", f.Known(), "of", safe)
 			}

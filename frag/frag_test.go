@@ -1,4 +1,4 @@
-package frag
+package frag_test
 
 import (
 	"bytes"
@@ -8,6 +8,7 @@ import (
 
 	"counterfoil/addr"
 	"counterfoil/api"
+	. "counterfoil/frag"
 	"counterfoil/ip4"
 )
 

@@ -1,4 +1,4 @@
-package hrw
+package hrw_test
 
 import (
 	"math"
@@ -6,6 +6,7 @@ import (
 	"slices"
 	"testing"
 
+	. "counterfoil/hrw"
 	"counterfoil/octet"
 	"counterfoil/siphash"
 )

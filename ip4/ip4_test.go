@@ -1,15 +1,19 @@
-package ip4
+package ip4_test
 
 import (
 	"bytes"
+	"fmt"
 	"math/rand"
-	"reflect"
 	"testing"
 
 	"counterfoil/addr"
 	"counterfoil/api"
+	. "counterfoil/ip4"
 	"counterfoil/sum"
 )
+
+// same reports whether two values print alike, as nil slices and empty ones do.
+func same(a, b any) bool { return fmt.Sprintf("%+v", a) == fmt.Sprintf("%+v", b) }
 
 func sample() Header {
 	return Header{Tos: 3, ID: 0x1234, Stay: true, TTL: 64, Proto: 6, Src: addr.V4(10, 0, 0, 1), Dst: addr.V4(10, 0, 0, 2)}
@@ -100,7 +104,7 @@ func TestParse(t *testing.T) {
 	b := pack(t, h, []byte("hello"))
 	got, load, e := Parse(append(bytes.Clone(b), 9, 9, 9))
 	h.Length, h.Sum = 29, uint16(b[10])<<8|uint16(b[11])
-	if e != api.OK || string(load) != "hello" || !reflect.DeepEqual(got, h) {
+	if e != api.OK || string(load) != "hello" || !same(got, h) {
 		t.Error(got, load, e)
 	}
 	got, load, _ = Parse(b)
@@ -144,7 +148,7 @@ func TestParseErrors(t *testing.T) {
 	}
 	for i, c := range cases {
 		h, load, e := Parse(c.b)
-		if e != c.want || len(load) != 0 || !reflect.DeepEqual(h, Header{}) {
+		if e != c.want || len(load) != 0 || !same(h, Header{}) {
 			t.Error(i, h, load, e)
 		}
 	}
@@ -230,7 +234,7 @@ func TestParseInvertsPacketAndOlderKeepsIt(t *testing.T) {
 			t.Fatal("options")
 		}
 		got.Options, h.Options = nil, nil
-		if !reflect.DeepEqual(got, h) {
+		if !same(got, h) {
 			t.Fatal(got, h)
 		}
 		if old, e := Older(b); e == api.OK {

@@ -1,4 +1,4 @@
-package ip6
+package ip6_test
 
 import (
 	"bytes"
@@ -7,6 +7,7 @@ import (
 
 	"counterfoil/addr"
 	"counterfoil/api"
+	. "counterfoil/ip6"
 )
 
 func sample() Header {

@@ -1,4 +1,4 @@
-package least
+package least_test
 
 import (
 	"cmp"
@@ -7,6 +7,7 @@ import (
 	"slices"
 	"testing"
 
+	. "counterfoil/least"
 	"counterfoil/turn"
 )
 

@@ -1,4 +1,4 @@
-package load
+package load_test
 
 import (
 	"bytes"
@@ -7,6 +7,7 @@ import (
 	"testing"
 
 	"counterfoil/api"
+	. "counterfoil/load"
 )
 
 func TestReports(t *testing.T) {

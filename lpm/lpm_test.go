@@ -1,4 +1,4 @@
-package lpm
+package lpm_test
 
 import (
 	"math"
@@ -7,6 +7,7 @@ import (
 
 	"counterfoil/addr"
 	"counterfoil/api"
+	. "counterfoil/lpm"
 )
 
 func prefix(t *testing.T, s string, n int) Prefix {
@@ -108,7 +109,7 @@ func TestTable(t *testing.T) {
 	}
 	find("10.1.2.3", Prefix{}, 0, false)
 	find("1:2:3:4:5:6:7:8", Prefix{}, 0, false)
-	if table != (Table{}) {
+	if table.Len() != 0 {
 		t.Error("something is left")
 	}
 	if p, v, ok := table.Find(api.Addr{High: 1}); p != (Prefix{}) || v != 0 || ok {

@@ -1,4 +1,4 @@
-package maglev
+package maglev_test
 
 import (
 	"math"
@@ -6,6 +6,7 @@ import (
 	"testing"
 
 	"counterfoil/api"
+	. "counterfoil/maglev"
 	"counterfoil/octet"
 	"counterfoil/siphash"
 )

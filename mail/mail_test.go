@@ -1,10 +1,11 @@
-package mail
+package mail_test
 
 import (
 	"math"
 	"testing"
 
 	"counterfoil/api"
+	. "counterfoil/mail"
 )
 
 func letter(node int, s string) Letter { return Letter{Node: node, B: []byte(s)} }
@@ -12,9 +13,18 @@ func letter(node int, s string) Letter { return Letter{Node: node, B: []byte(s)}
 // order checks which letters are in transit.
 func order(t *testing.T, m *Mail, want string) {
 	t.Helper()
+	var taken []Letter
 	got := ""
-	for i := range m.Len() {
-		got += string(m.letters[i].B)
+	for m.Len() > 0 {
+		x, e := m.Take(0)
+		if e != api.OK {
+			t.Fatal(e)
+		}
+		taken = append(taken, x)
+		got += string(x.B)
+	}
+	for _, x := range taken {
+		m.Send(x)
 	}
 	if got != want {
 		t.Errorf("%q, not %q", got, want)

@@ -1,4 +1,4 @@
-package meter
+package meter_test
 
 import (
 	"math"
@@ -6,6 +6,7 @@ import (
 	"testing"
 
 	"counterfoil/api"
+	. "counterfoil/meter"
 )
 
 func bucket(t *testing.T, rate, size uint64) *Bucket {

@@ -1,9 +1,10 @@
-package policy
+package policy_test
 
 import (
 	"math/rand"
 	"testing"
 
+	. "counterfoil/policy"
 	"counterfoil/turn"
 )
 

@@ -1,4 +1,4 @@
-package ring
+package ring_test
 
 import (
 	"bytes"
@@ -6,6 +6,7 @@ import (
 	"testing"
 
 	"counterfoil/api"
+	. "counterfoil/ring"
 	"counterfoil/siphash"
 )
 

@@ -1,4 +1,4 @@
-package script
+package script_test
 
 import (
 	"math"
@@ -10,6 +10,7 @@ import (
 	"counterfoil/api"
 	"counterfoil/config"
 	"counterfoil/fleet"
+	. "counterfoil/script"
 )
 
 // lines has a line of every kind, and the step that it describes.

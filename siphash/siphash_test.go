@@ -1,8 +1,10 @@
-package siphash
+package siphash_test
 
 import (
 	"math"
 	"testing"
+
+	. "counterfoil/siphash"
 )
 
 // counting returns the bytes 0, 1 and so on.

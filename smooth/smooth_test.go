@@ -1,9 +1,10 @@
-package smooth
+package smooth_test
 
 import (
 	"math/rand"
 	"testing"
 
+	. "counterfoil/smooth"
 	"counterfoil/turn"
 )
 

@@ -1,4 +1,4 @@
-package spread
+package spread_test
 
 import (
 	"math"
@@ -8,6 +8,7 @@ import (
 
 	"counterfoil/addr"
 	"counterfoil/api"
+	. "counterfoil/spread"
 )
 
 // key is the one of Microsoft's verification suite for receive-side scaling.
@@ -55,22 +56,31 @@ func TestSum(t *testing.T) {
 	}
 }
 
+// list returns the values of the slots of a table.
+func list(t Table, size int) []int {
+	var l []int
+	for i := range size {
+		l = append(l, t.Pick(uint32(i)))
+	}
+	return l
+}
+
 func TestNew(t *testing.T) {
 	table, e := New(4, 7, 8)
 	if e != api.OK || table.Pick(0) != 7 || table.Pick(5) != 8 || table.Pick(math.MaxUint32) != 8 || table.Count(7) != 2 || table.Count(9) != 0 {
 		t.Error(table, e)
 	}
 	three, _ := New(8, 1, 2, 3)
-	if !slices.Equal(three.slots, []int{1, 2, 3, 1, 2, 3, 1, 2}) || three.Count(3) != 2 {
+	if !slices.Equal(list(three, 8), []int{1, 2, 3, 1, 2, 3, 1, 2}) || three.Count(3) != 2 {
 		t.Error(three)
 	}
 	for _, size := range []int{1, 2, 4096} {
-		if table, e := New(size, -1, 5, 5, 6, 7); e != api.OK || len(table.slots) != size || table.Pick(0) != -1 {
+		if table, e := New(size, -1, 5, 5, 6, 7); e != api.OK || table.Count(-1)+table.Count(5)+table.Count(6)+table.Count(7) != size || table.Pick(0) != -1 {
 			t.Error(size, e)
 		}
 	}
 	for _, size := range []int{0, -1, -4, 3, 6, 4095, 8192, math.MinInt} {
-		if table, e := New(size, 1); e != api.ErrArg || len(table.slots) != 0 {
+		if table, e := New(size, 1); e != api.ErrArg || table.Pick(0) != -1 {
 			t.Error(size, e)
 		}
 	}
@@ -82,17 +92,17 @@ func TestNew(t *testing.T) {
 func TestWithout(t *testing.T) {
 	table, _ := New(8, 1, 2, 3, 2)
 	next, e := table.Without(2, 5, 2, 6, 7)
-	if e != api.OK || !slices.Equal(next.slots, []int{1, 5, 3, 6, 1, 7, 3, 5}) {
+	if e != api.OK || !slices.Equal(list(next, 8), []int{1, 5, 3, 6, 1, 7, 3, 5}) {
 		t.Error(next, e)
 	}
-	if !slices.Equal(table.slots, []int{1, 2, 3, 2, 1, 2, 3, 2}) {
+	if !slices.Equal(list(table, 8), []int{1, 2, 3, 2, 1, 2, 3, 2}) {
 		t.Error("the table itself was changed")
 	}
-	if same, e := table.Without(9, 1); e != api.OK || !slices.Equal(same.slots, table.slots) {
+	if same, e := table.Without(9, 1); e != api.OK || !slices.Equal(list(same, 8), list(table, 8)) {
 		t.Error(same, e)
 	}
 	for _, to := range [][]int{nil, {2}, {2, 2}} {
-		if next, e := table.Without(2, to...); e != api.ErrArg || len(next.slots) != 0 {
+		if next, e := table.Without(2, to...); e != api.ErrArg || next.Pick(0) != -1 {
 			t.Error(next, e)
 		}
 	}

@@ -1,4 +1,4 @@
-package stack
+package stack_test
 
 import (
 	"bytes"
@@ -8,6 +8,7 @@ import (
 	"testing"
 
 	"counterfoil/api"
+	. "counterfoil/stack"
 	"counterfoil/table"
 )
 

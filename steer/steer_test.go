@@ -1,4 +1,4 @@
-package steer
+package steer_test
 
 import (
 	"bytes"
@@ -10,6 +10,7 @@ import (
 	"counterfoil/ip4"
 	"counterfoil/ip6"
 	"counterfoil/packet"
+	. "counterfoil/steer"
 	"counterfoil/tcp"
 	"counterfoil/udp"
 )

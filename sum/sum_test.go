@@ -1,9 +1,11 @@
-package sum
+package sum_test
 
 import (
 	"encoding/binary"
 	"math/rand"
 	"testing"
+
+	. "counterfoil/sum"
 )
 
 var header = []byte{

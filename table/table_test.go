@@ -1,4 +1,4 @@
-package table
+package table_test
 
 import (
 	"bytes"
@@ -9,6 +9,7 @@ import (
 
 	"counterfoil/api"
 	"counterfoil/octet"
+	. "counterfoil/table"
 )
 
 func TestNext(t *testing.T) {

@@ -1,4 +1,4 @@
-package tunnel
+package tunnel_test
 
 import (
 	"bytes"
@@ -8,6 +8,7 @@ import (
 	"counterfoil/api"
 	"counterfoil/ip4"
 	"counterfoil/ip6"
+	. "counterfoil/tunnel"
 )
 
 var (

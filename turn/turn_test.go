@@ -1,9 +1,11 @@
-package turn
+package turn_test
 
 import (
 	"math"
 	"math/rand"
 	"testing"
+
+	. "counterfoil/turn"
 )
 
 func TestRight(t *testing.T) {

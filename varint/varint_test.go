@@ -1,4 +1,4 @@
-package varint
+package varint_test
 
 import (
 	"bytes"
@@ -8,6 +8,7 @@ import (
 	"testing"
 
 	"counterfoil/api"
+	. "counterfoil/varint"
 )
 
 func TestSizeAndPut(t *testing.T) {
