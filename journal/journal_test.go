@@ -65,6 +65,15 @@ func TestScan(t *testing.T) {
 	}
 }
 
+func TestScanSharesNothing(t *testing.T) {
+	b := Frame(1, []byte("abc"))
+	l, _ := Scan(b)
+	l[0][0] = 'x'
+	if again, _ := Scan(b); len(again) != 1 || string(again[0]) != "abc" {
+		t.Error("shared memory")
+	}
+}
+
 func TestScanRejectsLongRecords(t *testing.T) {
 	record := make([]byte, 4097)
 	head := octet.Put(octet.Put(nil, 1, 8), uint64(len(record)), 2)

@@ -57,6 +57,16 @@ func TestBytesAndParse(t *testing.T) {
 	}
 }
 
+func TestParseWithoutOptions(t *testing.T) {
+	s := Segment{SrcPort: 1, DstPort: 2, Load: []byte("x")}
+	if got, e := Parse(s.Bytes()); e != api.OK || len(got.Options) != 0 || string(got.Load) != "x" {
+		t.Error(got, e)
+	}
+	if got, e := Parse((Segment{Seq: 7}).Bytes()); e != api.OK || got.Seq != 7 || len(got.Load) != 0 {
+		t.Error(got, e)
+	}
+}
+
 func TestParseErrors(t *testing.T) {
 	b := sample().Bytes()
 	change := func(x byte, n int) []byte {

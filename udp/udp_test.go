@@ -31,6 +31,9 @@ func TestParseAndBytes(t *testing.T) {
 	if e != api.OK || !same(got, d) {
 		t.Error(got, e)
 	}
+	if got, e := Parse([]byte{1, 2, 3, 4, 0, 8, 5, 6}); e != api.OK || len(got.Load) != 0 || got.Sum != 0x0506 {
+		t.Error("an empty datagram:", got, e)
+	}
 	got, _ = Parse(b)
 	got.Load[0] = 7
 	if b[8] != 'a' {
