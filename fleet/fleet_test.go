@@ -18,6 +18,7 @@ import (
 	"counterfoil/packet"
 	"counterfoil/plane"
 	"counterfoil/policy"
+	"counterfoil/ring"
 	"counterfoil/siphash"
 	"counterfoil/tcp"
 	"counterfoil/tunnel"
@@ -205,6 +206,18 @@ func TestIssueCommitCrash(t *testing.T) {
 	}
 }
 
+func TestKeyOutlivesACrash(t *testing.T) {
+	x := serving(t)
+	was := x.Controller().State().Ring
+	do(t, x, Step{Kind: Crash}, api.OK)
+	if now := x.Controller().State().Ring; now != was || now != ring.New(siphash.Of(0, 1), 0) {
+		t.Error("another key")
+	}
+	if safe, issued := x.Controller().Len(); safe != 9 || issued != 9 || x.Replica(0).Known() != 9 {
+		t.Error(safe, issued)
+	}
+}
+
 func TestLetters(t *testing.T) {
 	s := setting()
 	s.Mail = 2
@@ -299,7 +312,7 @@ func TestSendAndReply(t *testing.T) {
 		back := x.Do(Step{Kind: Reply, Who: who, At: 0, Flags: tcp.SYN | tcp.ACK, Load: []byte("yes")})
 		info, why := packet.Read(back.Load)
 		val, echo, _ := info.TCP.Stamp()
-		if back.Errno != api.OK || back.Kind != 0 || back.Why != 0 || back.Backend != 1 || why != packet.Fine || string(info.TCP.Load) != "yes" || val>>16 != 0x4321 || echo != 0 {
+		if back.Errno != api.OK || back.Kind != 0 || back.Why != 0 || back.Backend != 1 || why != packet.Fine || string(info.TCP.Load) != "yes" || info.TCP.Flags != tcp.SYN|tcp.ACK || val>>16 != 0x4321 || echo != 0 {
 			t.Errorf("%+v", back)
 		}
 		if got, ok := x.Client(who).Recent(); got != val || !ok {

@@ -64,6 +64,17 @@ func TestSet(t *testing.T) {
 	}
 }
 
+func TestSetOfTooManyBytes(t *testing.T) {
+	for _, size := range []int{9, 10, 20, math.MaxInt} {
+		if got, e := Set(make([]byte, 20), 0, 7, size); e != api.ErrShort || len(got) != 0 {
+			t.Error(size, got, e)
+		}
+	}
+	if got, e := Set(make([]byte, 20), 12, 7, 8); e != api.OK || got[19] != 7 {
+		t.Error(got, e)
+	}
+}
+
 func TestEqual(t *testing.T) {
 	if !Equal(nil, []byte{}) || !Equal([]byte{1, 2}, []byte{1, 2}) || Equal([]byte{1}, []byte{1, 2}) || Equal([]byte{1}, []byte{2}) {
 		t.Error("Equal")

@@ -209,6 +209,10 @@ func TestRestart(t *testing.T) {
 	}
 	learn(t, p, state(t))
 	forwarded(t, p, open(t, tcp4), 0, 1)
+	if e := p.Book.Note(load.Report{Backend: 2, Num: 1}); e != api.OK {
+		t.Error("the new book takes no reports:", e)
+	}
+	forwarded(t, p, open(t, tcp4), 0, 3)
 }
 
 func TestCands(t *testing.T) {
@@ -541,6 +545,13 @@ func TestTooBigIsDropped(t *testing.T) {
 	back := addr.Back(tcp4)
 	sent := pack(t, back, segment(back, tcp.ACK, stamps(uint32(mark), 0), 1500).Bytes())
 	dropped(t, p, quote(t, sent, web4), packet.TooBig)
+	mark, _ = cookie.Hide(s.Ring, tcp6, cookie.Place{Slot: 0})
+	back = addr.Back(tcp6)
+	sent = pack(t, back, segment(back, tcp.ACK, stamps(uint32(mark), 0), 1500).Bytes())
+	dropped(t, p, quote(t, sent, web6), packet.TooBig)
+	if _, told := p.Sent(); told != 0 {
+		t.Error("an error was answered")
+	}
 }
 
 func TestAnswerQuotesThePacketAsItArrived(t *testing.T) {

@@ -70,6 +70,12 @@ func TestOthersStartAnew(t *testing.T) {
 	if s.Owed(1) != -1 || s.Owed(2) != 1 {
 		t.Error("another order:", s.Owed(1), s.Owed(2))
 	}
+	others := cands(1, 4)
+	others[0].Backend, others[1].Backend = 8, 9
+	s.Pick(others)
+	if s.Owed(9) != -1 || s.Owed(8) != 1 || s.Owed(1) != 0 {
+		t.Error("other backends of the same weights:", s.Owed(8), s.Owed(9))
+	}
 	s.Pick(cands(4))
 	if s.Owed(1) != 0 || s.Owed(2) != 0 {
 		t.Error("fewer:", s.Owed(1), s.Owed(2))

@@ -163,10 +163,18 @@ func TestCopy(t *testing.T) {
 	push(t, s, 1)
 	push(t, s, 2)
 	push(t, s, 3)
+	push(t, s, 4)
+	s.Retire(2)
+	s.Evict(9)
 	before := s.Bytes()
 	c := s.Copy()
+	if !bytes.Equal(c.Bytes(), before) {
+		t.Error("a copy is different")
+	}
 	c.Retire(0)
 	c.Evict(4)
+	c.Admit(9)
+	c.Release(2)
 	push(t, c, 4)
 	if !bytes.Equal(s.Bytes(), before) || bytes.Equal(c.Bytes(), before) {
 		t.Error("a copy is not independent")

@@ -128,7 +128,10 @@ func TestSummedAndFine(t *testing.T) {
 	if s.Options[0] != 1 || s.Load[0] != 'l' || s.Sum != 0x0f10 {
 		t.Error("Summed shares memory with its segment")
 	}
-	if Fine(make([]byte, 65536), four[0], four[1]) {
+	long := make([]byte, 65536)
+	check := sum.Of(ip6.Pseudo(six[0], six[1], 6, len(long)), long)
+	long[0], long[1] = byte(check>>8), byte(check)
+	if Fine(long, six[0], six[1]) || Fine(make([]byte, 65536), four[0], four[1]) {
 		t.Error("too long")
 	}
 	all := make([]byte, 65535)
@@ -154,6 +157,7 @@ func TestStamps(t *testing.T) {
 		{join([]byte{2, 4, 0, 0}, ten), 6, true},
 		{join([]byte{0}, ten), 0, false},
 		{join([]byte{1, 0}, ten), 0, false},
+		{join([]byte{0, 2}, ten), 0, false},
 		{ten[:9], 0, false},
 		{[]byte{8}, 0, false},
 		{[]byte{1, 1, 8}, 0, false},
