@@ -14,15 +14,19 @@ import (
 var key = siphash.Of(1, 2)
 
 func TestScore(t *testing.T) {
-	b := []byte("abc")
-	best := uint64(0)
-	for i := range 5 {
-		text := append(octet.Put(octet.Put([]byte{5}, 0x01020304, 4), uint64(i), 2), b...)
-		best = max(best, siphash.Sum(key, text))
-		if got := Score(key, Member{0x01020304, i + 1}, b); got != best {
-			t.Errorf("weight %d: %x, not %x", i+1, got, best)
+	for n := range 20 {
+		b := []byte("abc")[:n%4]
+		id := 0x01020304 + n
+		best := uint64(0)
+		for i := range 300 {
+			text := append(octet.Put(octet.Put([]byte{5}, uint64(id), 4), uint64(i), 2), b...)
+			best = max(best, siphash.Sum(key, text))
+			if got := Score(key, Member{id, i + 1}, b); got != best {
+				t.Fatalf("weight %d: %x, not %x", i+1, got, best)
+			}
 		}
 	}
+	b := []byte("abc")
 	for _, w := range []int{0, -1, math.MinInt} {
 		if Score(key, Member{1, w}, b) != 0 {
 			t.Error(w)
@@ -30,6 +34,18 @@ func TestScore(t *testing.T) {
 	}
 	if Score(key, Member{7, 65535}, nil) > Score(key, Member{7, math.MaxInt}, nil) {
 		t.Error("a great weight")
+	}
+}
+
+func TestScoreOfTheGreatestWeight(t *testing.T) {
+	for id := range 6 {
+		best := uint64(0)
+		for i := range 65535 {
+			best = max(best, siphash.Sum(key, octet.Put(octet.Put([]byte{5}, uint64(id), 4), uint64(i), 2)))
+		}
+		if got := Score(key, Member{id, 65535}, nil); got != best {
+			t.Errorf("%d: %x, not %x", id, got, best)
+		}
 	}
 }
 
